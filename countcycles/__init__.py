@@ -1,0 +1,1 @@
+"""Rules between columns of finite tables."""
