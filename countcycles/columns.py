@@ -1,6 +1,8 @@
-"""What the other files share: which values are widths, columns and rules, and where given rules lead."""
+"""What the other files share: which values are widths, columns, rows and rules, and what holds in rows."""
 
 WIDEST = 6
+MOST_ROWS = 400
+LARGEST_VALUE = 9999
 KINDS = ("settles", "within")
 
 
@@ -19,6 +21,13 @@ def is_column(width, thing):
     return is_an_integer(thing) and 0 <= thing < width
 
 
+def is_row(width, thing):
+    """Tell whether a value is a row for the width."""
+    if not isinstance(thing, tuple) or len(thing) != width:
+        return False
+    return all([is_an_integer(part) and 0 <= part <= LARGEST_VALUE for part in thing])
+
+
 def is_rule(width, thing):
     """Tell whether a value is a rule for the width."""
     if not isinstance(thing, tuple) or len(thing) != 3:
@@ -35,34 +44,10 @@ def every_rule(width):
     return [(kind, a, b) for kind in KINDS for a in columns for b in columns if a != b]
 
 
-def steps_down(rules):
-    """The pairs (a, b) of columns with a step down from a to b."""
-    return [(a, b) if kind == "settles" else (b, a) for kind, a, b in rules]
-
-
-def reached(pairs, start):
-    """The list of all columns to which the pairs lead from start, itself included."""
-    found = [start]
-    waiting = [start]
-    while waiting:
-        column = waiting.pop()
-        for a, b in pairs:
-            if a == column and b not in found:
-                found.append(b)
-                waiting.append(b)
-    return found
-
-
-def links(width, rules, kind):
-    """The pairs of columns of the given rules of a kind, and of those of them that can be turned round."""
-    steps = steps_down(rules)
-    below = [reached(steps, column) for column in range(width)]
-    pairs = [(a, b) for word, a, b in rules if word == kind]
-    turned = [(b, a) for a, b in pairs if a in below[b] and b in below[a]]
-    return pairs + turned
-
-
-def follows(width, rules, rule):
-    """Tell whether a rule follows from given ones."""
-    kind, first, second = rule
-    return second in reached(links(width, rules, kind), first)
+def holds(rows, rule):
+    """Tell whether a rule holds in a table with these rows."""
+    kind, a, b = rule
+    if kind == "within":
+        return len({row[a] for row in rows} - {row[b] for row in rows}) == 0
+    # A value of a beside two values of b would make more pairs than values.
+    return len({(row[a], row[b]) for row in rows}) == len({row[a] for row in rows})

@@ -1,7 +1,8 @@
 """Lists of rules between columns."""
 
-from countcycles.columns import every_rule, follows, is_rule, is_width
+from countcycles.columns import every_rule, is_rule, is_width
 from countcycles.errors import NoRule, NoRules, NoText, NotRules, NoWidth, UnlikeWidths
+from countcycles.ways import follows
 
 
 def line_of(rule):

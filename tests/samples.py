@@ -3,11 +3,21 @@
 import itertools
 import random
 
+from countcycles.logs import Log, Short, Strict, StrictShort
 from countcycles.rules import Rules
+from countcycles.tables import Table
 
 KINDS = ("settles", "within")
+CLASSES = (Log, Strict, Short, StrictShort)
+SHORT = (Short, StrictShort)
 
-NO_WIDTHS = (0, 7, 8, -1, -6, 10 ** 12, True, False, None, "", "2", "two", (), (2,), [], [2], {}, {2: 2}, Rules(2))
+NO_WIDTHS = (0, 7, 8, -1, -6, 10 ** 12, True, False, None, "", "2", "two", (), (2,), [], [2], {}, {2: 2}, Rules(2),
+             Table(2), Log(Rules(2)))
+
+
+def state(log):
+    """All that can be read off a log."""
+    return log.rules, log.table.width, log.table.rows, log.broken, log.changes, len(log), repr(log)
 
 
 def nested(make, depth):
@@ -36,8 +46,17 @@ def large_values():
     ]
 
 
+def package_values():
+    """Objects of the package that are no lists of rules, some of them inside of other values."""
+    rules = Rules(2, ("settles", 0, 1))
+    logs = [Log(rules), Strict(rules), Short(rules), StrictShort(rules)]
+    tables = [Table(1), Table(2), Table(2, (0, 1)), Table(6, (5, 5, 5, 5, 5, 5))]
+    inside = [tuple(logs), logs, (tables[2],), {0: tables[1]}, ("settles", *tables[:2]), ("fails", tables[2])]
+    return logs + tables + inside + [Log(rules).trying()]
+
+
 def any_values():
-    """Values of every kind of point 2, none of them a rule, a width, a list of rules or the text of one."""
+    """Values of every kind of point 2, none of them a rule, a row of several values, a width or a list of rules."""
     return [
         0, -1, 13, 10 ** 13 - 1, True, False, None, "x", "settles", "0 settles 1", "within",
         [], (), {}, [0], (0,), {0: 1}, {"settles": (0, 1)}, [("settles", 0, 1)], (("settles", 0, 1),),
@@ -45,7 +64,13 @@ def any_values():
         ("settles", (0,), (1,)), ("settles", None, 1), ("settles", "0", "1"), (None, 0, 1), (True, 0, 1),
         (0, "settles", 1), (0, 1, "settles"), ({}, 0, 1), ([], 0, 1), (Rules(2), 0, 1), ("settles", Rules(2), 1),
         ("settles", {}, []), (("settles",), 0, 1), (Rules(3, ("settles", 0, 1)),), [Rules(1)], {1: Rules(1)},
-    ] + deep_values() + large_values()
+    ] + deep_values() + large_values() + package_values()
+
+
+def values_but(kind):
+    """The values of any_values and some lists of rules, without the objects of a class."""
+    some = any_values() + [Rules(1), Rules(2), Rules(2, ("settles", 0, 1)), Rules(6)]
+    return [value for value in some if not isinstance(value, kind)]
 
 
 def rules_for(width):
@@ -74,6 +99,35 @@ def near_rules(width, rule):
     if a in (0, 1) and b in (0, 1):
         changed.append((kind, bool(a), bool(b)))
     return changed
+
+
+def near_rows(row):
+    """Values that differ from a row in one part, and are none themselves for its width."""
+    changed = [list(row), row[:-1], row + (0,), row + (None,), row * 2, (row,), [row], {0: row}, None, str(row),
+               " ".join(map(str, row))]
+    for place in range(len(row)):
+        for part in (-1, 10000, 10 ** 12, True, False, None, "", str(row[place]), (row[place],), [row[place]],
+                     {row[place]: 0}, Table(1), float(row[place])):
+            changed.append(row[:place] + (part,) + row[place + 1:])
+    return changed
+
+
+def random_rows(width, chance, least, most, large=3):
+    """Some rows for the width with values below a number."""
+    return [tuple(chance.randrange(large) for _ in range(width)) for _ in range(chance.randint(least, most))]
+
+
+def many_tables(width):
+    """The rows of many tables of the width, the same ones in each run."""
+    chance = random.Random(2000 + width)
+    tables = [random_rows(width, chance, 0, 6, large) for large in (1, 2, 3, 4, 10000) for _ in range(12)]
+    for _ in range(20):
+        # Columns that take their values from others, so that rules hold.
+        rows = random_rows(width, chance, 1, 8, 4)
+        source = [chance.randrange(width) for _ in range(width)]
+        shift = [chance.choice((0, 0, 1, 7)) for _ in range(width)]
+        tables.append([tuple(row[at] + more for at, more in zip(source, shift)) for row in rows])
+    return tables
 
 
 def ring(columns, kinds):
